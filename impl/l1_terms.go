@@ -198,6 +198,7 @@ func bagText(bag []*term) string {
 // termPool holds the terms of one call by their texts; equal ones are one pointer.
 type termPool struct {
 	known map[string]*term
+	base  *termPool // what it holds is in the pool, too; nil if there is none
 }
 
 // newTermPool returns a pool without terms.
@@ -205,9 +206,24 @@ func newTermPool() *termPool {
 	return &termPool{known: map[string]*term{}}
 }
 
+// scratch returns a pool with the terms of p, which does not get those that are made in it: they can be let go while p is still there.
+func (p *termPool) scratch() *termPool {
+	return &termPool{known: map[string]*term{}, base: p}
+}
+
+// find returns the term in the pool with a text, or nil if there is none.
+func (p *termPool) find(text string) *term {
+	for q := p; q != nil; q = q.base {
+		if t, ok := q.known[text]; ok {
+			return t
+		}
+	}
+	return nil
+}
+
 // intern returns the term in the pool that is equal to t, which becomes it if there is none.
 func (p *termPool) intern(t term) *term {
-	if old, ok := p.known[t.text]; ok {
+	if old := p.find(t.text); old != nil {
 		return old
 	}
 	p.known[t.text] = &t
@@ -346,17 +362,26 @@ func (p *termPool) open(t *term, name string) *term {
 	})
 }
 
-// swap returns a term with each name and index replaced by what leaf returns for it and the number of lam around it, of which lams are outside of the term.
+// swap returns a term with each name and index, from the front of its text on, replaced by what leaf returns for it and the number of lam around it, of which lams are outside of the term.
+// A part in which all stays is not made again: it is the same pointer.
 func (p *termPool) swap(t *term, lams int, leaf func(u *term, lams int) *term) *term {
 	switch t.kind {
 	case lamTerm:
-		return p.lam(p.swap(t.first, lams+1, leaf))
+		s := p.swap(t.first, lams+1, leaf)
+		if s == t.first {
+			return t
+		}
+		return p.lam(s)
 	case appTerm:
+		s := p.swap(t.first, lams, leaf)
 		bag := []*term{}
 		for _, u := range t.bag {
 			bag = append(bag, p.swap(u, lams, leaf))
 		}
-		return p.app(p.swap(t.first, lams, leaf), bag)
+		if s == t.first && slices.Equal(bag, t.bag) {
+			return t
+		}
+		return p.app(s, bag)
 	}
 	return leaf(t, lams)
 }
