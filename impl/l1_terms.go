@@ -148,6 +148,7 @@ type term struct {
 	text  string
 	size  int
 	index int     // what the text of an indexTerm tells
+	outer int     // how many lam must be around it for its indices: 0 for a resource term
 	first *term   // s of a lamTerm or an appTerm
 	bag   []*term // of an appTerm, sorted
 }
@@ -237,23 +238,24 @@ func (p *termPool) name(name string) *term {
 
 // index returns the term of an index.
 func (p *termPool) index(n int) *term {
-	return p.intern(term{kind: indexTerm, text: strconv.Itoa(n), size: 1, index: n})
+	return p.intern(term{kind: indexTerm, text: strconv.Itoa(n), size: 1, index: n, outer: n + 1})
 }
 
 // lam returns the term (lam s).
 func (p *termPool) lam(s *term) *term {
-	return p.intern(term{kind: lamTerm, text: "(lam " + s.text + ")", size: 1 + s.size, first: s})
+	return p.intern(term{kind: lamTerm, text: "(lam " + s.text + ")", size: 1 + s.size, outer: max(0, s.outer-1), first: s})
 }
 
 // app returns the term (app s B) for the terms of a bag in any order.
 func (p *termPool) app(s *term, bag []*term) *term {
 	sorted := sortedBag(bag)
-	size := 1 + s.size
+	size, outer := 1+s.size, s.outer
 	for _, t := range sorted {
 		size += t.size
+		outer = max(outer, t.outer)
 	}
 	text := "(app " + s.text + " " + bagText(sorted) + ")"
-	return p.intern(term{kind: appTerm, text: text, size: size, first: s, bag: sorted})
+	return p.intern(term{kind: appTerm, text: text, size: size, outer: outer, first: s, bag: sorted})
 }
 
 // read returns the term of a text that is a resource term.
@@ -352,11 +354,27 @@ func (p *termPool) bind(t *term, name string) *term {
 	}))
 }
 
-// open returns s of a resource term (lam s) in which the index of this lam becomes a name.
+// open returns s of (lam s) in which the index of this lam becomes a name, and those of lam further outside become 1 less.
 func (p *termPool) open(t *term, name string) *term {
 	return p.swap(t.first, 0, func(u *term, lams int) *term {
-		if u.kind == indexTerm && u.index == lams {
+		switch {
+		case u.kind == indexTerm && u.index == lams:
 			return p.name(name)
+		case u.kind == indexTerm && u.index > lams:
+			return p.index(u.index - 1)
+		}
+		return u
+	})
+}
+
+// raise returns a term with its indices of lam outside of it raised by a number, as they are when so many more lam are between.
+func (p *termPool) raise(t *term, by int) *term {
+	if by == 0 || t.outer == 0 {
+		return t
+	}
+	return p.swap(t, 0, func(u *term, lams int) *term {
+		if u.kind == indexTerm && u.index >= lams {
+			return p.index(u.index + by)
 		}
 		return u
 	})

@@ -122,7 +122,7 @@ func TestHoles(t *testing.T) {
 		p := newTermPool()
 		s, _ := p.read(c.text)
 		got := map[string]int{}
-		for u, count := range p.holes(s, "x") {
+		for u, count := range p.putOnce(s, "x", p.name(hole)) {
 			// The bag is in the order of its texts, "(" before "-" before letters.
 			got[u.text] = count
 		}
@@ -144,7 +144,7 @@ func TestStampsOfTermsThatAreNotMade(t *testing.T) {
 	for _, text := range texts {
 		s, _ := p.read(text)
 		stamps[s.stamp(0)] = true
-		for u := range p.holes(s, "x") {
+		for u := range p.putOnce(s, "x", p.name(hole)) {
 			for _, other := range texts {
 				by, _ := p.read(other)
 				if made := p.fill(u, hole, []*term{by}); made.stamp(7) != u.stamp(by.stamp(5)) {
